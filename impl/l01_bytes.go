@@ -103,12 +103,15 @@ func TextNum(s string) (int, bool) {
 
 func Parts(s string) []string { return strings.Split(s, " ") }
 
-func WordOk(s string) bool {
-	if len(s) < 1 || len(s) > maxWord {
+func WordOk(s string) bool { return isMadeOf(s, maxWord, isWordByte) }
+
+// isMadeOf reports whether s has 1 to size bytes, all of which fit.
+func isMadeOf(s string, size int, fits func(c byte) bool) bool {
+	if len(s) < 1 || len(s) > size {
 		return false
 	}
 	for i := range len(s) {
-		if !isWordByte(s[i]) {
+		if !fits(s[i]) {
 			return false
 		}
 	}
