@@ -85,6 +85,17 @@ func crcOfParts() func(part []byte) int {
 
 func Crc(b []byte) int { return crcOfParts()(b) }
 
+func crcOfBoth(head []byte, data []byte) int {
+	sum := crcOfParts()
+	sum(head)
+	return sum(data)
+}
+
+// appendChecked appends the checksum of head and data, and data. It may write into the spare capacity of head.
+func appendChecked(head []byte, data []byte) []byte {
+	return append(appendVar(head, crcOfBoth(head, data)), data...)
+}
+
 func NumText(n int) string {
 	if !isNumber(n) {
 		return ""
