@@ -968,6 +968,12 @@ func TestScrGoIgnoresTheRegion(t *testing.T) {
 
 func TestScreenFunctionsRejectInvalidScreens(t *testing.T) {
 	calls := append(movingCalls(), runeCall(-1), runeCall(math.MinInt), runeCall(math.MaxInt), ctlCall(-1), ctlCall(0), ctlCall(256), ctlCall(math.MinInt), goCall(math.MaxInt, math.MinInt))
+	wantRejected(t, calls)
+}
+
+// wantRejected expects the zero value of each call for each kind of invalid screen.
+func wantRejected(t *testing.T, calls []scrCall) {
+	t.Helper()
 	for _, c := range badChanges() {
 		s := changedScr(baseScr(), c.change)
 		for _, onAlt := range []bool{false, true} {
@@ -1255,7 +1261,11 @@ func sharingScrs() []impl.Scr {
 	return l
 }
 
-func TestScreenFunctionsLeaveTheirArgumentsAlone(t *testing.T) {
+func TestScreenFunctionsLeaveTheirArgumentsAlone(t *testing.T) { checkLeftAlone(t, scrResults) }
+
+// checkLeftAlone calls results, which returns what some functions return for a screen, and looks at the screen and at its spare capacity.
+func checkLeftAlone(t *testing.T, results func(s impl.Scr) []impl.Scr) {
+	t.Helper()
 	for i, s := range sharingScrs() {
 		s = spareScr(s)
 		before := wholeScr(s)
@@ -1265,14 +1275,14 @@ func TestScreenFunctionsLeaveTheirArgumentsAlone(t *testing.T) {
 				t.Errorf("%s: the screen %d, or the spare capacity behind it, is changed", when, i)
 			}
 		}
-		results := scrResults(s)
+		returned := results(s)
 		unchanged("after the calls")
-		again := scrResults(s)
-		for _, r := range results {
+		again := results(s)
+		for _, r := range returned {
 			overwriteScr(r)
 		}
 		unchanged("after the results were overwritten")
-		third := scrResults(s)
+		third := results(s)
 		overwriteScr(s)
 		for k := range third {
 			wantScr(t, fmt.Sprintf("the result %d for the screen %d after others were overwritten", k, i), third[k], again[k])
@@ -1282,14 +1292,20 @@ func TestScreenFunctionsLeaveTheirArgumentsAlone(t *testing.T) {
 
 // TestSlicesOfOneScreenShareNothing overwrites each slice of a result and looks at what the others have then.
 func TestSlicesOfOneScreenShareNothing(t *testing.T) {
+	checkNothingShared(t, scrResults)
+	checkNewScreen(t)
+}
+
+func checkNothingShared(t *testing.T, results func(s impl.Scr) []impl.Scr) {
+	t.Helper()
 	for i, s := range sharingScrs() {
 		if len(s.Back) > 10 {
 			continue
 		}
 		s = spareScr(s)
-		for k, want := range scrResults(s) {
+		for k, want := range results(s) {
 			for m := range memoryOf(&want) {
-				got := scrResults(s)[k]
+				got := results(s)[k]
 				memoryOf(&got)[m]()
 				expected := deepScr(want)
 				memoryOf(&expected)[m]()
@@ -1297,7 +1313,6 @@ func TestSlicesOfOneScreenShareNothing(t *testing.T) {
 			}
 		}
 	}
-	checkNewScreen(t)
 }
 
 func checkNewScreen(t *testing.T) {
