@@ -1305,11 +1305,15 @@ func TestRandomChanges(t *testing.T) {
 				want, wantOk = modelGrow(l, pane, down, by, w, h)
 			}
 			wantNodes(t, next, ok, want, wantOk, "a random change of %v in %d, %d", l, w, h)
-			// A Cut may leave parts that have no place, as the other part of a split may need another direction.
-			if _, placed := impl.Places(next, w, h); ok && placed {
-				checkCovered(t, next, w, h)
-				l = next
+			if !ok {
+				continue
 			}
+			// Also after a Cut: the area of every part that stays is at least as large as before.
+			if _, placed := impl.Places(next, w, h); !placed {
+				t.Fatalf("a random change of %v in %d, %d leaves no place for a pane: %v", l, w, h, next)
+			}
+			checkCovered(t, next, w, h)
+			l = next
 		}
 	}
 }
