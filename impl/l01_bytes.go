@@ -15,7 +15,7 @@ const crcPolynomial = 2197175160
 
 func isNumber(n int) bool { return 0 <= n && n <= MaxNum }
 
-// appendVar may write into the spare capacity of b, so b must not be an argument of an exported function.
+// appendVar may write into the spare capacity of b, so b must not be an argument of an exported function. The same holds for the two functions below.
 func appendVar(b []byte, n int) []byte {
 	rest := uint32(n)
 	for rest >= 128 {
@@ -23,6 +23,17 @@ func appendVar(b []byte, n int) []byte {
 		rest >>= 7
 	}
 	return append(b, byte(rest))
+}
+
+func appendVars(b []byte, numbers ...int) []byte {
+	for _, n := range numbers {
+		b = appendVar(b, n)
+	}
+	return b
+}
+
+func appendText[T string | []byte](b []byte, text T) []byte {
+	return append(appendVar(b, len(text)), text...)
 }
 
 func PutVar(b []byte, n int) ([]byte, bool) {
@@ -56,15 +67,21 @@ func PutText(b []byte, s string) ([]byte, bool) {
 	if len(s) > MaxText {
 		return nil, false
 	}
-	return append(appendVar(slices.Clone(b), len(s)), s...), true
+	return appendText(slices.Clone(b), s), true
 }
 
 func GetText(b []byte, at int) (string, int, bool) {
+	text, next, ok := textAt(b, at, MaxText)
+	return string(text), next, ok
+}
+
+// textAt returns a part of b that has at most this size.
+func textAt(b []byte, at int, most int) ([]byte, int, bool) {
 	size, from, ok := GetVar(b, at)
-	if !ok || size > MaxText || size > len(b)-from {
-		return "", 0, false
+	if !ok || size > most || size > len(b)-from {
+		return nil, 0, false
 	}
-	return string(b[from : from+size]), from + size, true
+	return b[from : from+size], from + size, true
 }
 
 // crcOfParts returns a function that gives the checksum of all the bytes it has received so far,
